@@ -1,0 +1,1 @@
+"""Sparkboard: circuits that run on a board of cells."""
