@@ -45,6 +45,7 @@ STATEMENTS = (
     ast.FunctionDef, ast.ClassDef, ast.Import, ast.ImportFrom, ast.Assign, ast.AugAssign, ast.If, ast.While, ast.For,
     ast.Return, ast.Break, ast.Continue, ast.Pass, ast.Raise, ast.Assert, ast.Delete, ast.Expr, ast.Try,
 )
+# The package does without these, though some of them may stand in some places.
 BARRED_NODES = (
     ast.GeneratorExp, ast.SetComp, ast.Set, ast.Await, ast.Div, ast.MatMult, ast.Yield, ast.YieldFrom, ast.NamedExpr,
     ast.Starred, ast.Lambda,
