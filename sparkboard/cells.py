@@ -9,6 +9,11 @@ def is_cell(value):
     return is_row(value) and len(value) == 2 and is_integer(value[0]) and is_integer(value[1])
 
 
+def are_told_cells(value):
+    """Whether a value is a tuple of cells that are tuples."""
+    return isinstance(value, tuple) and all([isinstance(item, tuple) and is_cell(item) for item in value])
+
+
 def cells_of(value):
     """The cells of a row of unlike cells, ascending; None for what is no such row."""
     if not is_row(value):

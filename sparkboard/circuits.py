@@ -71,13 +71,13 @@ class Parting:
         self.rows = kept(rows)
 
 
-def _bit_of(gate, values):
+def _word_of_gate(gate, values, ones):
     kind = gate[0]
     if kind == "one":
-        return 1
+        return ones
     one = values[gate[1]]
     if kind == "not":
-        return 1 - one
+        return ones ^ one
     other = values[gate[2]]
     if kind == "and":
         return one & other
@@ -85,14 +85,14 @@ def _bit_of(gate, values):
         return one | other
     if kind == "xor":
         return one ^ other
-    return one & (1 - other)
+    return one & (ones ^ other)
 
 
-def _values(circuit, state, bits):
-    """The values of all signals in a cycle."""
+def _values(circuit, state, bits, ones):
+    """The values of all signals in a cycle, 0 or ones; if ones has many bits, in as many cases, one a bit."""
     values = list(bits) + list(state)
     for gate in circuit.gates:
-        values.append(_bit_of(gate, values))
+        values.append(_word_of_gate(gate, values, ones))
     return values
 
 
@@ -100,9 +100,9 @@ def _picked(values, signals):
     return tuple([values[signal] for signal in signals])
 
 
-def _answer(circuit, state, bits):
-    """The outputs and the next state of a cycle."""
-    values = _values(circuit, state, bits)
+def cycle_of(circuit, state, bits, ones=1):
+    """The outputs and the next state of a cycle; of many cycles at once, if ones has many bits."""
+    values = _values(circuit, state, bits, ones)
     return _picked(values, circuit.outputs), _picked(values, circuit.nexts)
 
 
@@ -121,7 +121,7 @@ def cycle(circuit, state, bits):
     _check_state(circuit, state)
     if not is_bits(bits, circuit.inputs):
         raise BadRow(bits)
-    values = _values(circuit, state, bits)
+    values = _values(circuit, state, bits, 1)
     return tuple(values), _picked(values, circuit.nexts)
 
 
@@ -130,7 +130,7 @@ def _played(circuit, state, rows):
     told = []
     now = tuple(state)
     for bits in rows:
-        outputs, now = _answer(circuit, now, bits)
+        outputs, now = cycle_of(circuit, now, bits)
         told.append(outputs)
     return tuple(told), now
 
@@ -263,7 +263,7 @@ def lighter(circuit):
 def _answers(circuit, known, state, lines):
     """The answers of a circuit in a state to each line of bits; known keeps them for the next time."""
     if state not in known:
-        known[state] = [_answer(circuit, state, bits) for bits in lines]
+        known[state] = [cycle_of(circuit, state, bits) for bits in lines]
     return known[state]
 
 

@@ -70,6 +70,21 @@ INTERFACE = {
         "run_from": "circuit state rows", "state_behind": "circuit state rows", "needed": "circuit", "few": "circuit",
         "lighter": "circuit", "alike": "one other", "is_alike": "one other told", "Alike": "pairs", "Parting": "rows",
     },
+    "pictures": {"picture": "cells stand low high", "read_picture": "text", "corners": "cells"},
+    "tiles": {
+        "kinds": "", "ins_of": "kind", "outs_of": "kind", "word_of": "kind bits", "tile_cells": "kind", "upper": "tile",
+        "rows_of": "tile", "cells_at": "tile x", "is_tile": "kind cells",
+    },
+    "programs": {
+        "are_stages": "rows stages", "passed": "rows stages bits", "borders": "rows stages bits",
+        "sources": "rows stages row", "moved_down": "stages by", "beside": "one other", "held": "rows many",
+        "Program": "rows inputs registers stages nexts outs", "played": "program lines", "meant": "program state bits",
+        "does": "program circuit",
+    },
+    "making": {
+        "doubled": "m p", "exchanged": "m p", "led": "m p q", "made_at": "m p kind", "with_one": "circuit",
+        "program_of": "circuit", "is_program_of": "circuit program",
+    },
 }
 
 
@@ -278,7 +293,7 @@ class Interface(unittest.TestCase):
             self.assertEqual([part.arg for part in methods["__init__"].args.args], ["self"] + arguments.split(), node.name)
         else:
             self.assertEqual(arguments, "", node.name)
-        self.assertEqual("__eq__" in methods, node.name in ("Stand", "Circuit"), node.name)
+        self.assertEqual("__eq__" in methods, node.name in ("Stand", "Circuit", "Program"), node.name)
 
 
 if __name__ == "__main__":

@@ -1,4 +1,4 @@
-"""[7], [13] and [19]: the sizes, at their limits."""
+"""[7], [13], [19], [28] and [32]: the sizes, at their limits."""
 
 import random
 import unittest
@@ -11,8 +11,13 @@ from sparkboard.circuits import (
     Alike, Circuit, Parting, alike, cycle, few, is_alike, lighter, needed, run, run_from, state_behind,
 )
 from sparkboard.errors import BadLine
+from sparkboard.making import doubled, exchanged, is_program_of, led, made_at, program_of
+from sparkboard.programs import (
+    Program, are_stages, beside, borders, does, held, meant, moved_down, passed, played, sources,
+)
 from sparkboard.texts import Spoken, spoken_of, text_of
 from tests.plain import plain_needed, plain_run, plain_step, random_plan, rows_of_bits
+from tests.plain_tiles import plain_borders, plain_played, plain_sources, random_stages
 
 FAR = 10 ** 9
 WIRE = tuple((x, 0) for x in range(60000))
@@ -157,6 +162,77 @@ class Circuits(unittest.TestCase):
             told = alike(one, other)
             self.assertEqual(len(told.pairs), 16)
             self.assertIs(is_alike(one, other, told), True)
+
+
+class Programs(unittest.TestCase):
+    def setUp(self):
+        self.stages = random_stages(random.Random(4), 100, 2000, 0.02)
+        self.bits = rows_of_bits(5, 100, 1)[0]
+
+    def test_2000_stages_of_100_rows(self):
+        told = borders(100, self.stages, self.bits)
+        self.assertEqual(told, plain_borders(self.stages, self.bits))
+        self.assertEqual(passed(100, self.stages, self.bits), told[-1])
+        self.assertIs(are_stages(100, self.stages), True)
+        self.assertIs(are_stages(99, self.stages), False)
+        for row in (0, 50, 99):
+            self.assertEqual(sources(100, self.stages, row), plain_sources(self.stages, row))
+
+    def test_2000_stages_put_together(self):
+        further = moved_down(self.stages, 100)
+        both = beside(further, self.stages)
+        self.assertEqual(passed(200, both, self.bits + self.bits), 2 * passed(100, self.stages, self.bits))
+        self.assertEqual(passed(100, held(tuple(range(100)), 2000), self.bits), self.bits)
+
+    def test_60_cycles(self):
+        """Stages that hold most rows and change some on their way."""
+        stages = held(tuple(range(100)), 1940) + random_stages(random.Random(6), 100, 60, 0.02)
+        parts = (
+            100, tuple(range(0, 100, 2)), tuple((row, row % 3 % 2) for row in range(1, 100, 2)), stages,
+            tuple(range(50)), tuple(range(50, 100)),
+        )
+        program = Program(*parts)
+        lines = rows_of_bits(7, 50, 60)
+        told = played(program, lines)
+        self.assertEqual(told[:3], plain_played(parts, lines[:3]))
+        state, shown = [reset for _, reset in parts[2]], []
+        for bits in lines[:10]:
+            outs, state = meant(program, state, bits)
+            shown.append(outs)
+        self.assertEqual(told[:10], tuple(shown))
+
+    def test_circuits_of_60_signals(self):
+        """A chain of gates: slot 0 takes in one signal behind the other."""
+        for kind in ("or", "xor", "but"):
+            stages, gates = doubled(8, 0), []
+            for number in range(52):
+                signal = 1 + number % 7
+                gates.append((kind, 7 + number if number else 0, signal))
+                stages += doubled(9, 1 + signal) + led(10, 1 + signal, 1) + made_at(10, 0, kind)
+            stages += held(tuple(range(0, 18, 2)), 2000 - len(stages))
+            registers = ((10, 0), (12, 1), (14, 1))
+            program = Program(100, (0, 2, 4, 6, 8), registers, stages, (12, 14, 16), (0,))
+            self.assertEqual(len(program.stages), 2000)
+            self.assertIs(does(program, Circuit(5, (0, 1, 1), gates, (5, 6, 7), (59,))), True)
+            self.assertIs(does(program, Circuit(5, (0, 1, 1), gates, (5, 6, 7), (58,))), kind != "xor")
+            gates[51] = ("and",) + gates[51][1:]
+            self.assertIs(does(program, Circuit(5, (0, 1, 1), gates, (5, 6, 7), (59,))), False)
+
+
+class Making(unittest.TestCase):
+    def test_20_slots(self):
+        bits = (1, 0) * 20 + (0,)
+        self.assertEqual(passed(41, doubled(20, 0), bits)[-1], bits[38])
+        self.assertEqual(passed(41, exchanged(20, 18), bits), bits)
+        self.assertEqual(len(led(20, 0, 19)), 76)
+        self.assertEqual(passed(41, made_at(20, 18, "xor"), bits)[36:], (0, 0, 0, 0, 0))
+
+    def test_circuits_with_and_and_not(self):
+        for outputs in ((17,), (17, 17, 16, 15), (0, 1, 2, 3), ()):
+            gates = [("not", 0)] + [("and", 5 + k, k % 6) for k in range(1, 11)] + [("not", 16)]
+            for _ in range(5):
+                circuit = Circuit(3, (0, 1, 0), gates, (17, 5, 4), outputs)
+                self.assertIs(is_program_of(circuit, program_of(circuit)), True)
 
 
 if __name__ == "__main__":
