@@ -97,7 +97,7 @@ def borders(rows, stages, bits):
 def _joined(marks):
     joined = 0
     for mark in marks:
-        joined |= mark
+        joined = joined | mark
     return joined
 
 

@@ -244,9 +244,8 @@ def plan_of(circuit):
     return circuit.inputs, circuit.resets, circuit.gates, circuit.nexts, circuit.outputs
 
 
-# What stands at the first wrong tile's numbers, for stages of four rows.
 def wrong_stages(strange):
-    """Triples of stages of four rows and the numbers of BadTile."""
+    """Triples: stages that are wrong on four rows, and the numbers of the stage and the tile that are wrong first."""
     wire = ("wire", 0)
     no_tiles = [
         ("wire",), ("wire", 0, 0), (), ("wire", "0"), ("wire", None), ("wire", True), ("wire", False), ("wire", 1.0),
