@@ -79,7 +79,7 @@ class Sparks:
     def __init__(self, cells):
         self.cells = cells
         self.spots = {cell: spot for spot, cell in enumerate(cells)}
-        self.near = {}
+        self.near = [None] * len(cells)
         self.heads = {}
         self.tails = {}
 
@@ -109,27 +109,81 @@ class Sparks:
     def go(self):
         """One step of the one rule."""
         heads = self.heads
-        lit = {}
-        for head in heads:
-            if head not in self.near:
-                self.look_around(head)
-            for spot in self.near[head]:
-                lit[spot] = lit.get(spot, 0) + 1
         tails = self.tails
+        near = self.near
+        lit = {}
+        most = 1
+        for head in heads:
+            if near[head] is None:
+                self.look_around(head)
+            for spot in near[head]:
+                if spot in lit:
+                    lit[spot] += 1
+                    most = max(most, lit[spot])
+                elif spot not in heads and spot not in tails:
+                    lit[spot] = 1
         self.tails = heads
-        self.heads = {
-            spot: True for spot, many in lit.items()
-            if many <= 2 and spot not in heads and spot not in tails
-        }
+        self.heads = lit if most <= 2 else {spot: True for spot, many in lit.items() if many <= 2}
 
     def mark(self):
         """What the stand is told from: the numbers of heads and tails."""
         return tuple(sorted(list(self.heads))), tuple(sorted(list(self.tails)))
 
+    def put_back(self, mark):
+        """Begins with a stand of which mark told."""
+        self.heads = {spot: True for spot in mark[0]}
+        self.tails = {spot: True for spot in mark[1]}
+
+    def stand_of(self, mark):
+        """The Stand of which mark told."""
+        return Stand([self.cells[spot] for spot in mark[0]], [self.cells[spot] for spot in mark[1]])
+
     def as_stand(self):
         """The Stand of this moment."""
-        heads, tails = self.mark()
-        return Stand([self.cells[spot] for spot in heads], [self.cells[spot] for spot in tails])
+        return self.stand_of(self.mark())
+
+
+class Play:
+    """Cells that run while rows of bits come in at their entries, one row each period."""
+
+    def __init__(self, cells, entries, period):
+        self.sparks = Sparks(cells)
+        self.entries = [self.sparks.spot_of(cell) for cell in entries]
+        self.period = period
+        self.rows = ()
+        self.moment = 0
+
+    def begin(self, rows):
+        """Calls the stand of this moment that of the moment 0, at which the first row comes in."""
+        self.rows = rows
+        self.moment = 0
+        self.take_in()
+
+    def take_in(self):
+        """Lights the entries that have a 1 in the row that comes in at this moment, if one does."""
+        number, behind = divmod(self.moment, self.period)
+        if behind == 0 and number < len(self.rows):
+            self.sparks.light([spot for spot, bit in zip(self.entries, self.rows[number]) if bit == 1])
+
+    def go_on(self, end):
+        """To the next moment, or, if all is bare, to the next one at which a row may come in; to end at most."""
+        sparks = self.sparks
+        if sparks.heads or sparks.tails:
+            sparks.go()
+            self.moment += 1
+        else:
+            number = self.moment // self.period + 1
+            self.moment = min(end, number * self.period if number < len(self.rows) else end)
+        self.take_in()
+
+    def go_to(self, end):
+        """To a moment, that of now or a later one."""
+        while self.moment < end:
+            self.go_on(end)
+
+    def shown(self, spots):
+        """A bit for each of these cells: whether it is a head."""
+        return tuple([1 if spot in self.sparks.heads else 0 for spot in spots])
 
 
 def sparks_on(cells, stand):

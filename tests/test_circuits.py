@@ -96,6 +96,7 @@ class Circuits(Asking):
         ]
         for parts in others:
             self.assertFalse(circuit == Circuit(*parts))
+        self.assertFalse(Circuit(1, (), (), (), ()) == Circuit(2, (), (), (), ()))
         for other in (PLAN, None, Strange(), "Circuit"):
             self.assertFalse(circuit == other)
 

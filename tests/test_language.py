@@ -85,6 +85,19 @@ INTERFACE = {
         "doubled": "m p", "exchanged": "m p", "led": "m p q", "made_at": "m p kind", "with_one": "circuit",
         "program_of": "circuit", "is_program_of": "circuit program",
     },
+    "placing": {
+        "live_rows": "program s", "laid": "program", "border_stand": "program s bits", "border_bits": "program s stand",
+        "crossed": "program rows p",
+    },
+    "paths": {
+        "is_path": "cells", "most_extra": "width height", "padded": "width height extra", "Ways": "steps paths",
+        "ways": "width top starts ends least", "are_ways": "width top starts ends least told", "period_of": "width told",
+    },
+    "boards": {
+        "Board": "cells heads tails entries exits period delay", "board_of": "program", "board_for": "circuit",
+        "shown": "board rows", "exit_heads": "board rows moments",
+    },
+    "judge": {"ways_on": "program board", "is_board": "program board", "first_wrong": "program board"},
 }
 
 
@@ -202,6 +215,25 @@ class Rules(unittest.TestCase):
                     self.assertIn(getattr(node, "value", None), docstrings(tree), path.name)
             self.assertEqual(len(bound), len(set(bound)), path.name)
 
+    def test_tables_at_module_level_are_only_read(self):
+        tables = {
+            node.targets[0].id for tree in TREES.values() for node in tree.body
+            if isinstance(node, ast.Assign) and isinstance(node.value, (ast.Dict, ast.List))
+        }
+        self.assertIn("LINES", tables)
+        for path, tree in TREES.items():
+            read = set()
+            for node in ast.walk(tree):
+                if isinstance(node, (ast.Subscript, ast.Attribute)):
+                    read.add(node.value)
+                elif isinstance(node, ast.Compare):
+                    read.update(node.comparators)
+                elif isinstance(node, (ast.For, ast.comprehension)):
+                    read.add(node.iter)
+            for node in ast.walk(tree):
+                if isinstance(node, ast.Name) and isinstance(node.ctx, ast.Load) and node.id in tables:
+                    self.assertIn(node, read, f"{path.name}:{node.lineno}")
+
     def test_statements_and_signs(self):
         for where, node in self.each(ast.stmt):
             self.assertIsInstance(node, STATEMENTS, where)
@@ -293,7 +325,7 @@ class Interface(unittest.TestCase):
             self.assertEqual([part.arg for part in methods["__init__"].args.args], ["self"] + arguments.split(), node.name)
         else:
             self.assertEqual(arguments, "", node.name)
-        self.assertEqual("__eq__" in methods, node.name in ("Stand", "Circuit", "Program"), node.name)
+        self.assertEqual("__eq__" in methods, node.name in ("Stand", "Circuit", "Program", "Board"), node.name)
 
 
 if __name__ == "__main__":
