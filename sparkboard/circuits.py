@@ -1,7 +1,7 @@
 """Clocked circuits: their plain meaning, fewer gates, and whether two are alike."""
 
 from sparkboard.errors import BadGate, BadNumber, BadRow, Unlike
-from sparkboard.values import all_bits, is_below, is_bit_rows, is_bits, is_from, is_row, kept
+from sparkboard.values import all_bits, are_told_bit_rows, is_below, is_bit_rows, is_bits, is_from, is_row, kept
 
 PAIRED_KINDS = ("and", "or", "xor", "but")
 
@@ -260,20 +260,56 @@ def lighter(circuit):
     return _without_idle(_without_twins(few(circuit)))
 
 
-def _answers(circuit, known, state, lines):
-    """The answers of a circuit in a state to each line of bits; known keeps them for the next time."""
-    if state not in known:
-        known[state] = [cycle_of(circuit, state, bits) for bits in lines]
-    return known[state]
+class Cycles:
+    """The cycles of a circuit; each is worked out once."""
+
+    def __init__(self, circuit):
+        self.circuit = circuit
+        self.known = {}
+
+    def behind(self, state, bits):
+        """What a cycle shows from a state on, and the state behind it."""
+        if (state, bits) not in self.known:
+            self.known[(state, bits)] = cycle_of(self.circuit, state, bits)
+        return self.known[(state, bits)]
 
 
-def _rows_to(ahead, pair):
-    """The rows of bits that lead to a pair of states; ahead tells the pair and the bits ahead of each."""
-    rows = []
-    while ahead[pair] is not None:
-        pair, bits = ahead[pair]
-        rows.append(bits)
-    return tuple(reversed(rows))
+def first_parting(one, other, first, lines, most=None):
+    """Looks, from a pair of states on, for rows of lines with which one and other show unlike things.
+
+    Tells rows of the least number, at most most, or None; all pairs that were met; whether they lead to no others.
+    """
+    pairs = [first]
+    rows = {first: ()}
+    at = 0
+    # Pairs come in the order of how many lines lead to them, so the first difference is one of the least.
+    while at < len(pairs) and (most is None or len(rows[pairs[at]]) < most):
+        pair = pairs[at]
+        at += 1
+        for bits in lines:
+            shown, behind = one.behind(pair[0], bits)
+            other_shown, other_behind = other.behind(pair[1], bits)
+            if shown != other_shown:
+                return rows[pair] + (bits,), pairs, False
+            met = (behind, other_behind)
+            if met not in rows:
+                rows[met] = rows[pair] + (bits,)
+                pairs.append(met)
+    return None, pairs, at == len(pairs)
+
+
+def are_closed(one, other, first, lines, pairs):
+    """Whether pairs of states are unlike, have a first one among them, show the same and lead to one another."""
+    lot = {pair: True for pair in pairs}
+    if len(lot) != len(pairs) or first not in lot:
+        return False
+    for state, other_state in pairs:
+        for bits in lines:
+            shown, behind = one.behind(state, bits)
+            other_shown, other_behind = other.behind(other_state, bits)
+            if shown != other_shown or (behind, other_behind) not in lot:
+                return False
+    return True
 
 
 def _check_sizes(one, other):
@@ -284,26 +320,9 @@ def _check_sizes(one, other):
 def alike(one, other):
     """The Alike or the Parting of two circuits."""
     _check_sizes(one, other)
-    lines = all_bits(one.inputs)
-    known_one = {}
-    known_other = {}
-    pairs = [(one.resets, other.resets)]
-    ahead = {pairs[0]: None}
-    at = 0
-    # Pairs come in the order of how many cycles lead to them, so the first difference is one of the least.
-    while at < len(pairs):
-        pair = pairs[at]
-        at += 1
-        answers = _answers(one, known_one, pair[0], lines)
-        others = _answers(other, known_other, pair[1], lines)
-        for bits, answer, counter in zip(lines, answers, others):
-            if answer[0] != counter[0]:
-                return Parting(_rows_to(ahead, pair) + (bits,))
-            behind = (answer[1], counter[1])
-            if behind not in ahead:
-                ahead[behind] = (pair, bits)
-                pairs.append(behind)
-    return Alike(pairs)
+    first = (one.resets, other.resets)
+    rows, pairs, _ = first_parting(Cycles(one), Cycles(other), first, all_bits(one.inputs))
+    return Alike(pairs) if rows is None else Parting(rows)
 
 
 def _is_state(value, circuit):
@@ -318,26 +337,12 @@ def _is_closed(one, other, pairs):
     """Whether a value is what an Alike of two circuits keeps."""
     if not isinstance(pairs, tuple) or not all([_is_pair(pair, one, other) for pair in pairs]):
         return False
-    lot = {pair: True for pair in pairs}
-    if len(lot) != len(pairs) or (one.resets, other.resets) not in lot:
-        return False
-    lines = all_bits(one.inputs)
-    known_one = {}
-    known_other = {}
-    for state, counter_state in pairs:
-        answers = _answers(one, known_one, state, lines)
-        others = _answers(other, known_other, counter_state, lines)
-        for answer, counter in zip(answers, others):
-            if answer[0] != counter[0] or (answer[1], counter[1]) not in lot:
-                return False
-    return True
+    return are_closed(Cycles(one), Cycles(other), (one.resets, other.resets), all_bits(one.inputs), pairs)
 
 
 def _parts(one, other, rows):
     """Whether a value is what a Parting of two circuits keeps."""
-    if not isinstance(rows, tuple) or not all([isinstance(row, tuple) for row in rows]):
-        return False
-    if len(rows) == 0 or not is_bit_rows(rows, one.inputs):
+    if not are_told_bit_rows(rows, one.inputs) or len(rows) == 0:
         return False
     found = alike(one, other)
     # With the least number of rows no outputs differ ahead of the last cycle.

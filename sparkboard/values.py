@@ -31,6 +31,11 @@ def is_bit_rows(value, many):
     return is_row(value) and all([is_bits(row, many) for row in value])
 
 
+def are_told_bit_rows(value, many):
+    """Whether a value is a tuple of tuples, each of so many 0 and 1."""
+    return isinstance(value, tuple) and all([isinstance(row, tuple) for row in value]) and is_bit_rows(value, many)
+
+
 def kept(value):
     """The value as an object keeps it: a list may be changed later, so it is copied."""
     return tuple(value) if isinstance(value, list) else value

@@ -98,6 +98,24 @@ INTERFACE = {
         "shown": "board rows", "exit_heads": "board rows moments",
     },
     "judge": {"ways_on": "program board", "is_board": "program board", "first_wrong": "program board"},
+    "reading": {
+        "lean": "program", "pieces_of": "cells s", "tile_of": "piece s", "read_stage": "cells s", "Read": "program",
+        "NotOurs": "cell", "read_board": "board", "is_read": "board told",
+    },
+    "faults": {
+        "faulty": "board faults", "period_behind": "board stand bits", "Differs": "lines", "Never": "pairs", "SameTo": "most",
+        "least_line": "one other most", "is_told": "one other most told",
+    },
+    "movies": {
+        "stand_at": "board rows moment", "movie": "board rows moments", "probe": "board rows cell last",
+        "reel": "board rows moments",
+    },
+    "workshops": {"Workshop": "text"},
+}
+WORKSHOP = {
+    "put": "text", "drop": "name", "rename": "name new", "keep": "text", "release": "text", "text": "", "names": "",
+    "promises": "", "get": "name", "kept": "text", "board": "name", "show": "name rows", "undo": "", "redo": "",
+    "attempt": "action", "trial": "action",
 }
 
 
@@ -234,6 +252,12 @@ class Rules(unittest.TestCase):
                 if isinstance(node, ast.Name) and isinstance(node.ctx, ast.Load) and node.id in tables:
                     self.assertIn(node, read, f"{path.name}:{node.lineno}")
 
+    def test_what_is_done_finally(self):
+        for where, node in self.each(ast.Try):
+            for part in node.finalbody:
+                self.assertIsInstance(part, ast.Assign, where)
+                self.assertIsInstance(part.value, (ast.Name, ast.Attribute, ast.Constant), where)
+
     def test_statements_and_signs(self):
         for where, node in self.each(ast.stmt):
             self.assertIsInstance(node, STATEMENTS, where)
@@ -326,6 +350,15 @@ class Interface(unittest.TestCase):
         else:
             self.assertEqual(arguments, "", node.name)
         self.assertEqual("__eq__" in methods, node.name in ("Stand", "Circuit", "Program", "Board"), node.name)
+
+    def test_methods_of_workshops(self):
+        tree = TREES[FOLDER / "workshops.py"]
+        found = next(node for node in tree.body if isinstance(node, ast.ClassDef) and node.name == "Workshop")
+        methods = {part.name: part for part in found.body if isinstance(part, ast.FunctionDef)}
+        for name, arguments in WORKSHOP.items():
+            self.assertEqual([part.arg for part in methods[name].args.args], ["self"] + arguments.split(), name)
+        open_ones = {name for name in methods if not name.startswith("_")}
+        self.assertEqual(open_ones, set(WORKSHOP))
 
 
 if __name__ == "__main__":
