@@ -4,6 +4,8 @@ from sparkboard.errors import BadGate, BadNumber, BadRow, Unlike
 from sparkboard.values import all_bits, are_told_bit_rows, is_below, is_bit_rows, is_bits, is_from, is_row, kept
 
 PAIRED_KINDS = ("and", "or", "xor", "but")
+# So many pairs of states are looked at together at most.
+AT_ONCE = 256
 
 
 def _are_signals(value, many):
@@ -273,29 +275,42 @@ class Cycles:
             self.known[(state, bits)] = cycle_of(self.circuit, state, bits)
         return self.known[(state, bits)]
 
+    def all_behind(self, states, lines):
+        """The same for each state and each line."""
+        return [self.behind(state, bits) for state in states for bits in lines]
+
+
+def _looks(one, other, pairs, lines):
+    """For each pair of states and each line: whether one and other show the same, and the pair of states behind."""
+    answers = one.all_behind([pair[0] for pair in pairs], lines)
+    others = other.all_behind([pair[1] for pair in pairs], lines)
+    return [(answer[0] == counter[0], (answer[1], counter[1])) for answer, counter in zip(answers, others)]
+
 
 def first_parting(one, other, first, lines, most=None):
     """Looks, from a pair of states on, for rows of lines with which one and other show unlike things.
 
-    Tells rows of the least number, at most most, or None; all pairs that were met; whether they lead to no others.
+    Tells rows of the least number, at most most, or None; the pairs to which fewer lines lead; and whether these
+    lead to no others.
     """
     pairs = [first]
     rows = {first: ()}
+    are_all = True
     at = 0
     # Pairs come in the order of how many lines lead to them, so the first difference is one of the least.
-    while at < len(pairs) and (most is None or len(rows[pairs[at]]) < most):
-        pair = pairs[at]
-        at += 1
-        for bits in lines:
-            shown, behind = one.behind(pair[0], bits)
-            other_shown, other_behind = other.behind(pair[1], bits)
-            if shown != other_shown:
-                return rows[pair] + (bits,), pairs, False
-            met = (behind, other_behind)
-            if met not in rows:
-                rows[met] = rows[pair] + (bits,)
+    while at < len(pairs):
+        block = pairs[at:at + AT_ONCE]
+        at += len(block)
+        for number, (is_same, met) in enumerate(_looks(one, other, block, lines)):
+            behind = rows[block[number // len(lines)]] + (lines[number % len(lines)],)
+            if not is_same:
+                return behind, pairs, False
+            if met not in rows and len(behind) == most:
+                are_all = False
+            elif met not in rows:
+                rows[met] = behind
                 pairs.append(met)
-    return None, pairs, at == len(pairs)
+    return None, pairs, are_all
 
 
 def are_closed(one, other, first, lines, pairs):
@@ -303,12 +318,10 @@ def are_closed(one, other, first, lines, pairs):
     lot = {pair: True for pair in pairs}
     if len(lot) != len(pairs) or first not in lot:
         return False
-    for state, other_state in pairs:
-        for bits in lines:
-            shown, behind = one.behind(state, bits)
-            other_shown, other_behind = other.behind(other_state, bits)
-            if shown != other_shown or (behind, other_behind) not in lot:
-                return False
+    for at in range(0, len(pairs), AT_ONCE):
+        looks = _looks(one, other, pairs[at:at + AT_ONCE], lines)
+        if not all([is_same and met in lot for is_same, met in looks]):
+            return False
     return True
 
 

@@ -61,44 +61,117 @@ def faulty(board, faults):
 
 
 class Periods:
-    """The periods of a board; each is run once, from a stand as Sparks marks it."""
+    """The periods of a board, many at once: numbers tell for each cell in which cases it is a head, one a bit.
+
+    Stands are told by their marks, as Sparks tells them.
+    """
 
     def __init__(self, board):
-        self.play = played_on(board, ())
-        self.own = self.play.sparks.mark()
+        play = played_on(board, ())
+        self.sparks = play.sparks
+        self.own = play.sparks.mark()
+        self.entries = spots_of(play, board.entries)
+        self.exits = spots_of(play, board.exits)
+        self.period = board.period
         self.delay = board.delay
-        self.exits = spots_of(self.play, board.exits)
-        self.known = {}
+        self.heads = {}
+        self.tails = {}
 
     def mark_of(self, stand):
         """The mark of a stand; BadCell if a cell of it is none of the board."""
-        self.play.sparks.put(stand)
-        return self.play.sparks.mark()
+        self.sparks.put(stand)
+        return self.sparks.mark()
 
-    def stand_of(self, mark):
-        """The Stand of a mark."""
-        return self.play.sparks.stand_of(mark)
+    def begin(self, marks, lines):
+        """Begins with a case for each stand and each line, whose bits light the entries that are bare."""
+        heads = {}
+        tails = {}
+        lit = [0] * len(self.entries)
+        for number, mark in enumerate(marks):
+            first = number * len(lines)
+            cases = ((1 << len(lines)) - 1) << first
+            for spot in mark[0]:
+                heads[spot] = heads.get(spot, 0) | cases
+            for spot in mark[1]:
+                tails[spot] = tails.get(spot, 0) | cases
+            for case, bits in enumerate(lines, start=first):
+                lit = [known | (bit << case) for known, bit in zip(lit, bits)]
+        for spot, cases in zip(self.entries, lit):
+            bare = cases & ~tails.get(spot, 0)
+            if bare != 0:
+                heads[spot] = heads.get(spot, 0) | bare
+        self.heads = heads
+        self.tails = tails
 
-    def behind(self, mark, bits):
-        """What a period shows from a stand on, and the stand behind it."""
-        if (mark, bits) not in self.known:
-            self.known[(mark, bits)] = self.run_through(mark, bits)
-        return self.known[(mark, bits)]
+    def go(self):
+        """One step of the one rule in all cases."""
+        heads = self.heads
+        near = self.sparks.near
+        lit = {}
+        twice = {}
+        crowded = {}
+        for head, cases in heads.items():
+            if near[head] is None:
+                self.sparks.look_around(head)
+            for spot in near[head]:
+                again = lit.get(spot, 0) & cases
+                lit[spot] = lit.get(spot, 0) | cases
+                if again != 0:
+                    crowded[spot] = crowded.get(spot, 0) | (twice.get(spot, 0) & again)
+                    twice[spot] = twice.get(spot, 0) | again
+        tails = self.tails
+        self.heads = {}
+        self.tails = heads
+        for spot, cases in lit.items():
+            bare = cases & ~(heads.get(spot, 0) | tails.get(spot, 0) | crowded.get(spot, 0))
+            if bare != 0:
+                self.heads[spot] = bare
 
-    def run_through(self, mark, bits):
-        """Runs a period, and further if the exits are looked at later than at its end."""
-        play = self.play
-        play.sparks.put_back(mark)
-        play.begin((bits,))
-        if self.delay > play.period:
-            play.go_to(play.period)
-            behind = play.sparks.mark()
-            play.go_to(self.delay)
-            return play.shown(self.exits), behind
-        play.go_to(self.delay)
-        shown = play.shown(self.exits)
-        play.go_to(play.period)
-        return shown, play.sparks.mark()
+    def go_on(self, steps):
+        """So many steps; none where all is bare."""
+        for _ in range(steps):
+            if len(self.heads) == 0 and len(self.tails) == 0:
+                break
+            self.go()
+
+    def shown(self, many):
+        """For each of so many cases a bit for each exit: whether it is a head."""
+        exits = [self.heads.get(spot, 0) for spot in self.exits]
+        return [tuple([cases >> case & 1 for cases in exits]) for case in range(many)]
+
+    def marks(self, many):
+        """For each of so many cases the mark of its stand."""
+        heads = _spots_by_case(self.heads, many)
+        tails = _spots_by_case(self.tails, many)
+        return list(zip(heads, tails))
+
+    def all_behind(self, marks, lines):
+        """For each stand and each line what a period shows, and the stand behind it."""
+        many = len(marks) * len(lines)
+        self.begin(marks, lines)
+        # The exits may be looked at behind the end of the period.
+        self.go_on(min(self.delay, self.period))
+        shown = self.shown(many)
+        if self.delay > self.period:
+            behind = self.marks(many)
+            self.go_on(self.delay - self.period)
+            shown = self.shown(many)
+        else:
+            self.go_on(self.period - self.delay)
+            behind = self.marks(many)
+        return list(zip(shown, behind))
+
+
+def _spots_by_case(lit, many):
+    """For each of so many cases its spots, ascending; lit tells for spots their cases."""
+    spots = [[] for _ in range(many)]
+    for spot in sorted(list(lit)):
+        cases = lit[spot]
+        while cases != 0:
+            lowest = cases & -cases
+            spots[lowest.bit_length() - 1].append(spot)
+            cases = cases ^ lowest
+    return [tuple(row) for row in spots]
 
 
 def period_behind(board, stand, bits):
@@ -112,8 +185,8 @@ def period_behind(board, stand, bits):
         raise BadRow(stand) from None
     if not is_bits(bits, len(board.entries)):
         raise BadRow(bits)
-    shown, behind = periods.behind(mark, tuple(bits))
-    return periods.stand_of(behind), shown
+    shown, behind = periods.all_behind([mark], [bits])[0]
+    return periods.sparks.stand_of(behind), shown
 
 
 def _check_boards(one, other, most):
@@ -141,7 +214,7 @@ def least_line(one, other, most):
         return Differs(lines)
     if not are_all:
         return SameTo(most)
-    return Never([(ones.stand_of(mark), others.stand_of(other_mark)) for mark, other_mark in pairs])
+    return Never([(ones.sparks.stand_of(mark), others.sparks.stand_of(counter)) for mark, counter in pairs])
 
 
 def _last_shown(periods, lines):
@@ -149,7 +222,7 @@ def _last_shown(periods, lines):
     mark = periods.own
     shown = ()
     for bits in lines:
-        shown, mark = periods.behind(mark, bits)
+        shown, mark = periods.all_behind([mark], [bits])[0]
     return shown
 
 

@@ -241,6 +241,7 @@ class Told(Asking):
         self.assertIs(is_told(one, other, most, told), True)
         again = least_line(one, other, most)
         self.assertIs(again.__class__, told.__class__)
+        self.assertEqual(vars(again), vars(told))
         return told
 
     def assert_never(self, one, other, told):
@@ -491,3 +492,27 @@ class Sizes(Asking):
         cut = faulty(board, [("out", (15, 0))])
         self.assertIs(least_line(board, cut, 6).__class__, SameTo)
         self.assertEqual(least_line(board, cut, 7).lines[0], (1,))
+
+    def test_three_entries_and_rows_that_are_remembered(self):
+        """Wires of more than six periods: each row of up to six lines leads to a stand of its own."""
+        cells = tuple((x, y) for x in range(1900) for y in (0, 4, 8))
+        board = Board(cells, (), (), ((0, 0), (0, 4), (0, 8)), ((1899, 4), (59, 8)), 12, 11)
+        other = faulty(board, [("in", (900, 40))])
+        self.assertIs(least_line(board, other, 5).__class__, SameTo)
+        told = least_line(board, faulty(board, [("out", (30, 8))]), 6)
+        self.assertEqual((told.__class__, len(told.lines), told.lines[0][2]), (Differs, 5, 1))
+
+    def test_a_wire_full_of_sparks(self):
+        """A ring sends a spark down a long wire every eight moments."""
+        cells = RING + tuple((x, 0) for x in range(4, 2000))
+        board = Board(cells, ((0, 1),), ((1, 0),), (), ((1999, 0),), 1000, 401)
+        told = self.assert_quickly_told(board, faulty(board, [("in", (900, 40))]), Never)
+        self.assertEqual(len(told.pairs), 3)
+        told = self.assert_quickly_told(board, faulty(board, [("out", (1500, 0))]), Differs)
+        self.assertEqual(told.lines, ((), (), ()))
+
+    def assert_quickly_told(self, board, other, kind):
+        told = least_line(board, other, 6)
+        self.assertIs(told.__class__, kind)
+        self.assertIs(is_told(board, other, 6, told), True)
+        return told

@@ -10,7 +10,7 @@ from tests.asking import Asking
 from tests.plain import Strange, only_tuples, plain_neighbours, rows_of_bits, strange_values
 from tests.plain_boards import (
     other_ways, plain_first_wrong, plain_gates, plain_is_path, plain_laid, plain_moments, plain_resets, plain_shown,
-    plain_way, some_board_parts,
+    plain_way, some_board_parts, some_parts, untangled,
 )
 from tests.plain_tiles import parts_of, plain_played, random_stages
 from tests.test_boards import ATTRIBUTES, board_parts
@@ -128,6 +128,17 @@ class Taken(Judging):
         programs = some_board_parts(4, 14, 3, 2)
         for parts, others in itertools.product(programs, programs):
             self.assert_judged(parts, board_of(Program(*others)))
+
+    def test_ways_do_not_cross(self):
+        """Fact C: no board is taken for a program whose nexts do not ascend with its registers."""
+        asked = 0
+        for parts in some_parts(12, 200, 6, 2, 1):
+            if parts != untangled(parts):
+                asked += 1
+                for out in range(2):
+                    for board in (board_of(Program(*untangled(parts))), otherwise(untangled(parts), out, 3 * out)[0]):
+                        self.assertEqual(self.assert_judged(parts, board), 3)
+        self.assertGreater(asked, 20)
 
     def test_rows_that_bear_nothing(self):
         more = (TWO[0] + 5,) + TWO[1:]
