@@ -63,7 +63,11 @@ class Stock:
             told = _always_one(first.circuit, first.names.index(words[2]))
         else:
             raise NoName(words[2])
-        return (True, None) if isinstance(told, Alike) else (False, told.rows)
+        if isinstance(told, Alike):
+            return True, None
+        # An "always" is told by the rows alone: callers know no second circuit that a Parting would speak of.
+        witness = told if words[1] == "same" else told.rows
+        return False, witness
 
     def look(self):
         """NotKept for the first promise that is not kept; ahead of this what keeps it from being asked."""

@@ -3,6 +3,7 @@
 import itertools
 import re
 
+from sparkboard.circuits import Parting
 from tests.plain import all_bits, plain_cycle, plain_least, plain_run
 
 RESERVED = "circuit input reg next output end one not and or xor but same as always".split()
@@ -73,8 +74,18 @@ def plain_always(plan, signal):
     return None
 
 
-def is_witness(words, shapes, rows):
-    """Whether rows show that a promise is not kept: the last cycle does, and no lesser number of rows."""
+def rows_of_witness(words, witness):
+    """[61]: the rows of a Parting where a "same" is not kept, a row of rows itself for an "always"; None for others."""
+    if words[1] == "same":
+        return witness.rows if witness.__class__ is Parting else None
+    return witness if witness.__class__ is tuple else None
+
+
+def is_witness(words, shapes, witness):
+    """Whether a witness shows that a promise is not kept: the last cycle does, and no lesser number of rows."""
+    rows = rows_of_witness(words, witness)
+    if rows is None:
+        return False
     plan = SHAPES[shapes[words[0]]][1]
     if words[1] == "same":
         other = SHAPES[shapes[words[3]]][1]

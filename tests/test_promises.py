@@ -2,7 +2,7 @@
 
 import random
 
-from sparkboard.circuits import Circuit
+from sparkboard.circuits import Circuit, Parting, is_alike
 from sparkboard.errors import BadText, NoName, NotKept, Unlike
 from sparkboard.texts import Spoken, text_of
 from sparkboard.workshops import Workshop
@@ -23,8 +23,12 @@ class Promises(Asking):
         self.assertEqual(self.shop.kept("wire same as wire"), (True, None))
         self.assertEqual(self.shop.kept("wire same as inverse")[0], False)
         told = self.shop.kept("wire same as toggle")
-        self.assertEqual(told, (False, ((1,),)))
-        self.assertTrue(only_tuples(told[1]))
+        self.assertIs(told.__class__, tuple)
+        is_kept, parting = told
+        self.assertIs(is_kept, False)
+        self.assertIs(parting.__class__, Parting)
+        self.assertEqual(vars(parting), {"rows": ((1,),)})
+        self.assertTrue(only_tuples(parting.rows))
 
     def test_always(self):
         self.assertEqual(self.shop.kept("late always o"), (True, None))
@@ -47,9 +51,11 @@ class Promises(Asking):
                 elif plain_least(plan, counterplan) is None:
                     self.assertEqual(self.shop.kept(text), (True, None))
                 else:
-                    is_kept, rows = self.shop.kept(text)
+                    is_kept, parting = self.shop.kept(text)
                     self.assertIs(is_kept, False)
-                    self.assertTrue(is_witness((one, "same", "as", other), shapes, rows))
+                    self.assertTrue(is_witness((one, "same", "as", other), shapes, parting))
+                    circuits = self.shop.get(one).circuit, self.shop.get(other).circuit
+                    self.assertIs(is_alike(*circuits, parting), True)
             for at, signal in enumerate(SHAPES[one][2]):
                 told = self.shop.kept(f"{one} always {signal}")
                 if plain_always(SHAPES[one][1], at) is None:
@@ -94,7 +100,14 @@ class Promises(Asking):
         with self.assertRaises(NotKept) as caught:
             self.shop.keep("  wire  same as   inverse ")
         self.assertEqual(caught.exception.promise, "wire same as inverse")
-        self.assertEqual(caught.exception.witness, self.shop.kept("wire same as inverse")[1])
+        witness = caught.exception.witness
+        self.assertIs(witness.__class__, Parting)
+        self.assertEqual(witness.rows, self.shop.kept("wire same as inverse")[1].rows)
+        with self.assertRaises(NotKept) as caught:
+            self.shop.keep(" late   always n")
+        self.assertEqual(caught.exception.promise, "late always n")
+        self.assertEqual(caught.exception.witness, self.shop.kept("late always n")[1])
+        self.assertTrue(only_tuples(caught.exception.witness))
         self.assertEqual(self.shop.promises(), ())
 
 

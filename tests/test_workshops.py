@@ -1,5 +1,6 @@
 """[60], [62], [64] to [66]: workshops, edits, attempts and trials."""
 
+import itertools
 import random
 
 from sparkboard import errors
@@ -11,7 +12,7 @@ from sparkboard.workshops import Workshop
 from tests.asking import Asking
 from tests.plain import Strange, only_tuples, plain_run, rows_of_bits, strange_values
 from tests.plain_boards import plain_shown
-from tests.plain_shops import SHAPES, PlainShop, Refused, is_witness, text_for
+from tests.plain_shops import SHAPES, PlainShop, Refused, is_witness, rows_of_witness, text_for
 from tests.test_boards import no_rows_of
 
 NO_NAMES = [
@@ -38,6 +39,16 @@ class Shops(Asking):
         """An error, behind which all is as it was."""
         before = told_by(shop)
         self.assert_error(kind, fields, call, *arguments)
+        self.assertEqual(told_by(shop), before)
+
+    def assert_not_kept(self, shop, promise, rows, call, *arguments):
+        """A NotKept with a witness of these rows, behind which all is as it was."""
+        before = told_by(shop)
+        with self.assertRaises(NotKept) as caught:
+            call(*arguments)
+        self.assertEqual(set(vars(caught.exception)), {"promise", "witness"})
+        self.assertEqual(caught.exception.promise, promise)
+        self.assertEqual(rows_of_witness(promise.split(), caught.exception.witness), rows)
         self.assertEqual(told_by(shop), before)
 
 
@@ -246,7 +257,7 @@ class Edits(Shops):
             self.assert_refused(shop, kind, fields, call, argument)
         shop.redo()
         self.assertEqual(shop.promises(), ("a same as b",))
-        self.assert_refused(shop, NotKept, ("a same as b", ((0,),)), shop.put, text_for("a", "inverse"))
+        self.assert_not_kept(shop, "a same as b", ((0,),), shop.put, text_for("a", "inverse"))
         self.assert_refused(shop, NothingToRedo, (), shop.redo)
         shop.undo()
         self.assertEqual(shop.promises(), ())
@@ -255,15 +266,32 @@ class Edits(Shops):
         shop = Workshop(texts(("a", "wire"), ("b", "twice"), ("c", "late")))
         for text in ("a same as b", "c always o", "a same as a"):
             shop.keep(text)
-        self.assert_refused(shop, NotKept, ("a same as b", ((0,),)), shop.put, text_for("b", "inverse"))
+        self.assert_not_kept(shop, "a same as b", ((0,),), shop.put, text_for("b", "inverse"))
         self.assert_refused(shop, Unlike, ("sizes",), shop.put, text_for("b", "two"))
         self.assert_refused(shop, NoName, ("o",), shop.put, text_for("c", "wire"))
         # The first promise counts, and of each one first what keeps it from being asked.
         self.assert_refused(shop, NoName, ("o",), shop.put, texts(("c", "wire"), ("a", "two"), ("b", "two")))
         self.assert_refused(shop, Unlike, ("sizes",), shop.put, texts(("c", "wire"), ("a", "two")))
-        self.assert_refused(shop, NotKept, ("a same as b", ((0,),)), shop.put, texts(("c", "wire"), ("a", "inverse")))
+        self.assert_not_kept(shop, "a same as b", ((0,),), shop.put, texts(("c", "wire"), ("a", "inverse")))
         shop.put(texts(("a", "inverse"), ("b", "inverse")))
         self.assertEqual(shop.kept("a same as b"), (True, None))
+
+    def test_an_always_that_an_edit_breaks(self):
+        """Its witness is the row of rows, of an edit, an attempt and a trial."""
+        broken = "circuit a\n  input i\n  reg r = 1\n  next r = i\n  output r\nend\n"
+        shop = Workshop(broken.replace("next r = i", "next r = r") + text_for("b", "wire"))
+        shop.keep("a always r")
+        shop.keep("b same as b")
+        lot = [rows for rows in itertools.product(((0,), (1,)), repeat=2) if rows[0] == (0,)]
+        for call, argument in (
+            (shop.put, broken), (shop.attempt, lambda one: one.put(broken)), (shop.trial, lambda one: one.put(broken)),
+        ):
+            before = told_by(shop)
+            with self.assertRaises(NotKept) as caught:
+                call(argument)
+            self.assertEqual(caught.exception.promise, "a always r")
+            self.assertIn(caught.exception.witness, lot)
+            self.assertEqual(told_by(shop), before)
 
     def test_old_stands_do_not_change(self):
         shop = Workshop(texts(("a", "wire")))
@@ -301,7 +329,8 @@ class Attempts(Shops):
     def test_a_promise_broken_on_the_way(self):
         def action(shop):
             shop.put(text_for("a", "inverse"))
-            self.assertEqual(shop.kept("a same as b")[0], False)
+            is_kept, parting = shop.kept("a same as b")
+            self.assertEqual((is_kept, rows_of_witness("a same as b".split(), parting)), (False, ((0,),)))
             shop.put(text_for("b", "two"))
             self.assert_error(Unlike, ("sizes",), shop.kept, "a same as b")
             shop.put(text_for("b", "inverse"))
@@ -312,10 +341,19 @@ class Attempts(Shops):
 
     def test_a_promise_broken_at_the_end(self):
         for call in (self.shop.attempt, self.shop.trial):
-            for shape, kind, fields in (
-                ("inverse", NotKept, ("a same as b", ((0,),))), ("two", Unlike, ("sizes",)),
-            ):
-                self.assert_refused(self.shop, kind, fields, call, lambda shop: shop.put(text_for("a", shape)))
+            self.assert_not_kept(
+                self.shop, "a same as b", ((0,),), call, lambda shop: shop.put(text_for("a", "inverse")),
+            )
+            self.assert_refused(self.shop, Unlike, ("sizes",), call, lambda shop: shop.put(text_for("a", "two")))
+            # Promises that are made, renamed and broken within are found at the end, by their words of then.
+            self.assert_not_kept(
+                self.shop, "c same as b", ((0,),), call,
+                lambda shop: (shop.rename("a", "c"), shop.put(text_for("c", "inverse"))),
+            )
+            self.assert_not_kept(
+                self.shop, "d same as a", ((0,),), call,
+                lambda shop: (shop.put(text_for("d", "inverse")), shop.keep("d same as a")),
+            )
         self.shop.undo()
         self.assertEqual(self.shop.promises(), ())
         self.assert_refused(self.shop, NothingToUndo, (), self.shop.undo)
@@ -467,7 +505,7 @@ class Attempts(Shops):
             return shop.attempt(lambda one: one.put(text_for("a", "inverse")))
 
         for call in (self.shop.attempt, self.shop.trial):
-            self.assert_refused(self.shop, NotKept, ("a same as b", ((0,),)), call, breaks)
+            self.assert_not_kept(self.shop, "a same as b", ((0,),), call, breaks)
             self.assertEqual(call(lambda shop: shop.trial(lambda one: one.put(text_for("a", "inverse")))), None)
         self.shop.put(text_for("c", "wire"))
         self.assertEqual(self.shop.names(), ("a", "b", "c"))
@@ -477,7 +515,7 @@ class Attempts(Shops):
         self.shop.trial(lambda shop: None)
         with self.assertRaises(ZeroDivisionError):
             self.shop.attempt(lambda shop: 1 // 0)
-        self.assert_refused(self.shop, NotKept, ("a same as b", ((0,),)), self.shop.put, text_for("a", "inverse"))
+        self.assert_not_kept(self.shop, "a same as b", ((0,),), self.shop.put, text_for("a", "inverse"))
 
 
 class Random(Shops):
@@ -584,7 +622,7 @@ class Random(Shops):
 
     def test_witnesses(self):
         chance = random.Random(2)
-        found = 0
+        found = {"same": 0, "always": 0}
         for _ in range(200):
             names = {name: chance.choice(list(SHAPES)) for name in self.NAMES}
             shop = Workshop(texts(*names.items()))
@@ -594,14 +632,18 @@ class Random(Shops):
             try:
                 shop.keep(text)
             except NotKept as why:
-                found += 1
+                words = tuple(text.split())
+                found[words[1]] += 1
                 self.assertEqual(why.promise, text)
-                self.assertTrue(is_witness(tuple(text.split()), names, why.witness))
-                self.assertEqual(shop.kept(text), (False, why.witness))
-                self.assertTrue(only_tuples(why.witness))
+                self.assertTrue(is_witness(words, names, why.witness))
+                rows = rows_of_witness(words, why.witness)
+                self.assertTrue(only_tuples(rows))
+                is_kept, witness = shop.kept(text)
+                self.assertIs(is_kept, False)
+                self.assertEqual(rows_of_witness(words, witness), rows)
             except (NoName, Unlike):
                 pass
-        self.assertGreater(found, 30)
+        self.assertGreater(min(found.values()), 10)
 
 
 class Sizes(Shops):
